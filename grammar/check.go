@@ -5,6 +5,7 @@ import (
 
 	"withy/api"
 	"withy/guard"
+	"withy/share"
 	"withy/tree"
 )
 
@@ -60,7 +61,7 @@ func checkAt(g api.Grammar, defs ...int) (checked, api.Errno) {
 	if e != api.OK {
 		return checked{}, e
 	}
-	if !areIndexes(len(c.Defs), defs...) {
+	if !share.AreIndexes(len(c.Defs), defs...) {
 		return checked{}, api.ErrAbsent
 	}
 	return c, api.OK
@@ -107,7 +108,7 @@ func checkAlone(r api.Re, def, defs int) api.Errno {
 	switch {
 	case stray(r):
 		return api.ErrForm
-	case shapes[r.Op].def && !areIndexes(defs, r.Def):
+	case shapes[r.Op].def && !share.AreIndexes(defs, r.Def):
 		return api.ErrAbsent
 	case r.Op == api.RRef && r.Def >= def:
 		return api.ErrOrder
@@ -124,17 +125,7 @@ func stray(r api.Re) bool {
 		return true
 	}
 	s := shapes[r.Op]
-	return len(r.Subs) != s.subs || !s.guard && !sameGuard(r.Guard, api.Guard{}) || !s.def && r.Def != 0
-}
-
-// areIndexes is whether all numbers of a list are indexes of a list of so many elements.
-func areIndexes(count int, l ...int) bool {
-	for _, i := range l {
-		if i < 0 || i >= count {
-			return false
-		}
-	}
-	return true
+	return len(r.Subs) != s.subs || !s.guard && !share.SameGuard(r.Guard, api.Guard{}) || !s.def && r.Def != 0
 }
 
 // guardsOf returns the guards of a grammar whose expressions have no errors.
@@ -143,7 +134,7 @@ func guardsOf(g api.Grammar) []api.Guard {
 	for _, d := range g.Defs {
 		for r := range expressions(d.Body) {
 			if shapes[r.Op].guard {
-				l = added(l, r.Guard, sameGuard)
+				l = share.Added(l, r.Guard, share.SameGuard)
 			}
 		}
 	}

@@ -4,6 +4,7 @@ import (
 	"slices"
 
 	"withy/api"
+	"withy/share"
 )
 
 // Uses returns which definitions a definition uses.
@@ -61,7 +62,7 @@ func Labels(g api.Grammar, def int) ([]string, api.Errno) {
 	var l []string
 	for _, reached := range c.reach(def) {
 		for r := range expressions(c.Defs[reached].Body) {
-			for part := range guardsIn(r.Guard) {
+			for part := range share.Parts(r.Guard) {
 				if part.Op == api.GLabel {
 					l = append(l, part.Name)
 				}
@@ -109,7 +110,7 @@ func (c checked) measured(measure func(op api.ReOp, subs []int) int) []int {
 		if r.Op == api.RRef {
 			return l[r.Def] // of an earlier definition
 		}
-		return measure(r.Op, mapped(r.Subs, of))
+		return measure(r.Op, share.Mapped(r.Subs, of))
 	}
 	for _, d := range c.Defs {
 		n := of(d.Body)

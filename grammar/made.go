@@ -5,6 +5,7 @@ import (
 
 	"withy/api"
 	"withy/guard"
+	"withy/share"
 )
 
 // Open returns the opened Body of a definition.
@@ -34,7 +35,7 @@ func Trim(g api.Grammar, defs []int) (t api.Grammar, now []int, e api.Errno) {
 		return api.Grammar{}, nil, e
 	case len(defs) == 0:
 		return api.Grammar{}, nil, api.ErrMany
-	case !areIndexes(len(c.Defs), defs...):
+	case !share.AreIndexes(len(c.Defs), defs...):
 		return api.Grammar{}, nil, api.ErrAbsent
 	}
 	kept := c.reach(defs...)
@@ -114,15 +115,15 @@ func changed(g api.Grammar, def int, change func(d *api.Def)) (api.Grammar, api.
 
 // remade returns the grammar whose Bodies are remade.
 func (c checked) remade(change func(r api.Re) api.Re) api.Grammar {
-	return api.Grammar{Defs: mapped(c.Defs, func(d api.Def) api.Def {
+	return api.Grammar{Defs: share.Mapped(c.Defs, func(d api.Def) api.Def {
 		return api.Def{Name: d.Name, Body: remade(d.Body, change)}
 	})}
 }
 
 // remade returns an expression that is made from the inside: each one is what change makes of it, when its Subs are made. It shares no memory with r, so that change can change its Subs.
 func remade(r api.Re, change func(r api.Re) api.Re) api.Re {
-	r.Guard = cloneGuard(r.Guard)
-	r.Subs = mapped(r.Subs, func(sub api.Re) api.Re { return remade(sub, change) })
+	r.Guard = share.CloneGuard(r.Guard)
+	r.Subs = share.Mapped(r.Subs, func(sub api.Re) api.Re { return remade(sub, change) })
 	return change(r)
 }
 

@@ -3,6 +3,7 @@ package grammar
 import (
 	"withy/api"
 	"withy/guard"
+	"withy/share"
 	"withy/tree"
 )
 
@@ -133,7 +134,7 @@ func (j judge) line(f []api.Tree, deep int) *line {
 }
 
 // of returns the pieces that an expression has.
-func (l *line) of(r api.Re) set { return l.acts[r.Op].has(r, mapped(r.Subs, l.of)) }
+func (l *line) of(r api.Re) set { return l.acts[r.Op].has(r, share.Mapped(r.Subs, l.of)) }
 
 // tree has the pieces that are one tree, whose head the guard accepts, and whose kids are of the definition.
 func (l *line) tree(r api.Re, _ []set) set {

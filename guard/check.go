@@ -1,38 +1,19 @@
 package guard
 
 import (
-	"iter"
 	"slices"
 	"strings"
 
 	"withy/api"
 	"withy/num"
+	"withy/share"
 	"withy/tree"
 )
-
-// parts yields a guard, and then those of its Subs, in order, with theirs.
-func parts(g api.Guard) iter.Seq[api.Guard] {
-	return func(yield func(api.Guard) bool) {
-		var all func(g api.Guard) bool
-		all = func(g api.Guard) bool {
-			if !yield(g) {
-				return false
-			}
-			for _, sub := range g.Subs {
-				if !all(sub) {
-					return false
-				}
-			}
-			return true
-		}
-		all(g)
-	}
-}
 
 // tooLarge is whether a guard has too many guards. It goes no further than the first one that is too many, because a slice can hold itself as Subs.
 func tooLarge(g api.Guard) bool {
 	count := 0
-	for range parts(g) {
+	for range share.Parts(g) {
 		count++
 		if count > api.MaxGuards {
 			return true

@@ -4,6 +4,7 @@ import (
 	"slices"
 
 	"withy/api"
+	"withy/share"
 )
 
 // Cell returns the guard that accepts what is in a region of a list of guards.
@@ -33,21 +34,12 @@ func Cell(l []api.Guard, region int) (api.Guard, api.Errno) {
 // accepting returns a guard that accepts what g does, or, if that is not wanted, what g does not.
 func accepting(g api.Guard, wanted bool) api.Guard {
 	if wanted {
-		return clone(g)
+		return share.CloneGuard(g)
 	}
-	return not(clone(g))
+	return not(share.CloneGuard(g))
 }
 
 func not(g api.Guard) api.Guard { return api.Guard{Op: api.GNot, Subs: []api.Guard{g}} }
-
-// clone returns a guard that shares no memory with g.
-func clone(g api.Guard) api.Guard {
-	g.Subs = slices.Clone(g.Subs)
-	for i, sub := range g.Subs {
-		g.Subs[i] = clone(sub)
-	}
-	return g
-}
 
 // Simple returns a simple guard that accepts the same heads.
 func Simple(g api.Guard) (api.Guard, api.Errno) {

@@ -8,6 +8,7 @@ import (
 
 	"withy/api"
 	"withy/num"
+	"withy/share"
 )
 
 // marks are what the guards of a list name, each once, and in order.
@@ -20,7 +21,7 @@ type marks struct {
 func marksOf(l []api.Guard) marks {
 	m := marks{values: map[string][]string{}}
 	for _, g := range l {
-		for part := range parts(g) {
+		for part := range share.Parts(g) {
 			m.note(part)
 		}
 	}

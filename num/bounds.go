@@ -1,23 +1,9 @@
 package num
 
-import "withy/api"
-
-// beyond is the panic of a result that has no place within the bounds of a number: it saves each step of a computation from asking after the one before.
-type beyond struct{}
-
-// bounded returns what compute returns, or ErrLimit where that goes beyond the bounds.
-func bounded[T any](compute func() T) (result T, e api.Errno) {
-	defer func() {
-		switch recover().(type) {
-		case nil:
-		case beyond:
-			e = api.ErrLimit
-		default: // nothing else panics here; if it did, the caller would have to get an error, not a panic
-			e = api.ErrState
-		}
-	}()
-	return compute(), api.OK
-}
+import (
+	"withy/api"
+	"withy/share"
+)
 
 // lowest returns n divided by d in lowest terms. d is not 0; both are far enough from the bounds of an int that their signs can be changed.
 func lowest(n, d int) api.Num {
@@ -30,7 +16,7 @@ func lowest(n, d int) api.Num {
 		n, d = n/common, d/common
 	}
 	if n < -api.MaxNum || n > api.MaxNum || d > api.MaxNum {
-		panic(beyond{})
+		panic(share.Beyond{})
 	}
 	return api.Num{N: n, D: d}
 }

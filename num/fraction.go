@@ -4,6 +4,7 @@ import (
 	"cmp"
 
 	"withy/api"
+	"withy/share"
 )
 
 // fraction is a valid number, with the methods of which the operations are made. All that they multiply fits an int, because a numerator and a denominator are at most MaxNum.
@@ -34,7 +35,7 @@ func compute(o operation, a, b api.Num) (api.Num, api.Errno) {
 	if e := firstError(a, b); e != api.OK {
 		return api.Num{}, e
 	}
-	return bounded(func() api.Num { return table()[o](fraction(a), fraction(b)) })
+	return share.Bounded(func() api.Num { return table()[o](fraction(a), fraction(b)) })
 }
 
 func (a fraction) plus(b fraction) api.Num { return lowest(a.N*b.D+b.N*a.D, a.D*b.D) }

@@ -4,6 +4,7 @@ import (
 	"iter"
 
 	"withy/api"
+	"withy/share"
 )
 
 // Simplest returns the simplest number above a and below b.
@@ -14,7 +15,7 @@ func Simplest(a, b api.Num) (api.Num, api.Errno) {
 	if fraction(a).compare(fraction(b)) >= 0 {
 		return api.Num{}, api.ErrEmpty
 	}
-	return bounded(func() api.Num {
+	return share.Bounded(func() api.Num {
 		switch {
 		case a.N < 0 && b.N > 0:
 			return api.Num{N: 0, D: 1}

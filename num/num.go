@@ -1,7 +1,10 @@
 // Package num computes with exact numbers. It is specified in shared/doc/01-num.md.
 package num
 
-import "withy/api"
+import (
+	"withy/api"
+	"withy/share"
+)
 
 // Check returns the error of a number, or OK.
 func Check(a api.Num) api.Errno {
@@ -22,7 +25,7 @@ func Make(n, d int) (api.Num, api.Errno) {
 	case d == 0:
 		return api.Num{}, api.ErrEmpty
 	}
-	return bounded(func() api.Num { return lowest(n, d) })
+	return share.Bounded(func() api.Num { return lowest(n, d) })
 }
 
 // Neg returns -a.
@@ -58,7 +61,7 @@ func Sum(l []api.Num) (api.Num, api.Errno) {
 	if e := firstError(l...); e != api.OK {
 		return api.Num{}, e
 	}
-	return bounded(func() api.Num { return total(l...) })
+	return share.Bounded(func() api.Num { return total(l...) })
 }
 
 // Pow returns a times itself, n times.
@@ -69,7 +72,7 @@ func Pow(a api.Num, n int) (api.Num, api.Errno) {
 	if n < 0 || n > api.MaxPow {
 		return api.Num{}, api.ErrRange
 	}
-	return bounded(func() api.Num { return power(a, n) })
+	return share.Bounded(func() api.Num { return power(a, n) })
 }
 
 // Cmp returns -1 if a is less than b, 0 if they are equal, otherwise 1.

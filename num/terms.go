@@ -4,6 +4,7 @@ import (
 	"iter"
 
 	"withy/api"
+	"withy/share"
 )
 
 // Terms returns the terms of a number.
@@ -44,7 +45,7 @@ func Of(terms []int) (api.Num, api.Errno) {
 	if len(terms) > 1 && terms[len(terms)-1] == 1 {
 		return api.Num{}, api.ErrForm
 	}
-	return bounded(func() api.Num { return standsFor(terms) })
+	return share.Bounded(func() api.Num { return standsFor(terms) })
 }
 
 // standsFor goes through the ends of the list, the shortest one first. Each term, and each end, is within the bounds before it is multiplied.
@@ -59,7 +60,7 @@ func standsFor(terms []int) api.Num {
 
 func term(t int) api.Num {
 	if t < -api.MaxNum || t > api.MaxNum {
-		panic(beyond{})
+		panic(share.Beyond{})
 	}
 	return api.Num{N: t, D: 1}
 }

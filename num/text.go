@@ -4,6 +4,7 @@ import (
 	"strings"
 
 	"withy/api"
+	"withy/share"
 )
 
 const (
@@ -94,7 +95,7 @@ func parseDecimal(front, behind string, factor int) (api.Num, api.Errno) {
 		return api.Num{}, api.ErrForm
 	}
 	scale := tenTo(len(behind))
-	return bounded(func() api.Num { return lowest(factor*(whole*scale+part), scale) })
+	return share.Bounded(func() api.Num { return lowest(factor*(whole*scale+part), scale) })
 }
 
 // cut cuts a text at the first slash or point: mark is that byte, or 0 if there is none.

@@ -1,18 +1,19 @@
-package num
+package share_test
 
 import (
 	"testing"
 
 	"withy/api"
+	"withy/share"
 )
 
-// P0.1: no panic leaves the package, not even one that it does not know, and no result comes with it.
+// P0.1: no panic leaves what is bounded, not even one that is not known, and no result comes with it.
 func TestBounded(t *testing.T) {
 	for _, x := range []struct {
 		cause any
 		e     api.Errno
-	}{{nil, api.OK}, {beyond{}, api.ErrLimit}, {"unknown", api.ErrState}} {
-		k, e := bounded(func() int {
+	}{{nil, api.OK}, {share.Beyond{}, api.ErrLimit}, {"unknown", api.ErrState}} {
+		k, e := share.Bounded(func() int {
 			if x.cause != nil {
 				panic(x.cause)
 			}
