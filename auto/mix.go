@@ -10,14 +10,11 @@ var subsOf = [...]int{api.MixIs: 0, api.MixNot: 1, api.MixAnd: 2, api.MixOr: 2}
 
 // checkMix returns the error of a mix of an automaton with so many definitions, or OK.
 func checkMix(m api.Mix, defs int) api.Errno {
-	var all []api.Mix
-	for part := range share.Nested(m, func(m api.Mix) []api.Mix { return m.Subs }) {
-		if len(all) == api.MaxGuards { // no further: a slice can hold itself as Subs
-			return api.ErrMany
-		}
-		all = append(all, part)
+	parts := share.Nested(m, func(m api.Mix) []api.Mix { return m.Subs })
+	if !share.Fits(parts, api.MaxGuards) {
+		return api.ErrMany
 	}
-	for _, part := range all {
+	for part := range parts {
 		switch {
 		case part.Op < 0 || int(part.Op) >= len(subsOf) || len(part.Subs) != subsOf[part.Op]:
 			return api.ErrForm

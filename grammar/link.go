@@ -61,7 +61,7 @@ func Labels(g api.Grammar, def int) ([]string, api.Errno) {
 	}
 	var l []string
 	for _, reached := range c.reach(def) {
-		for r := range expressions(c.Defs[reached].Body) {
+		for r := range share.Expressions(c.Defs[reached].Body) {
 			for part := range share.Parts(r.Guard) {
 				if part.Op == api.GLabel {
 					l = append(l, part.Name)
@@ -76,8 +76,8 @@ func Labels(g api.Grammar, def int) ([]string, api.Errno) {
 // uses returns which definitions a definition uses, ascending.
 func (c checked) uses(def int) []int {
 	var l []int
-	for r := range expressions(c.Defs[def].Body) {
-		if shapes[r.Op].def {
+	for r := range share.Expressions(c.Defs[def].Body) {
+		if share.UseOf(r.Op).Def {
 			l = append(l, r.Def)
 		}
 	}

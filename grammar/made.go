@@ -141,7 +141,7 @@ func (c checked) opened(r api.Re) api.Re {
 
 // renumbered returns an expression that names a definition by the index that it has now.
 func renumbered(r api.Re, now func(def int) int) api.Re {
-	if shapes[r.Op].def {
+	if share.UseOf(r.Op).Def {
 		r.Def = now(r.Def)
 	}
 	return r
@@ -206,4 +206,9 @@ func single(r api.Re) api.Re {
 		return r.Subs[0]
 	}
 	return r
+}
+
+// sameRe is whether expressions are the same in each field.
+func sameRe(a, b api.Re) bool {
+	return a.Op == b.Op && share.SameGuard(a.Guard, b.Guard) && a.Def == b.Def && slices.EqualFunc(a.Subs, b.Subs, sameRe)
 }

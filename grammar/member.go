@@ -47,11 +47,9 @@ func (c checked) members(f []api.Tree) ([]bool, api.Errno) {
 
 // mixes is whether a grammar has mixes.
 func (c checked) mixes() bool {
-	for _, d := range c.Defs {
-		for r := range expressions(d.Body) {
-			if r.Op == api.RMix {
-				return true
-			}
+	for r := range expressions(c.Grammar) {
+		if r.Op == api.RMix {
+			return true
 		}
 	}
 	return false
@@ -105,7 +103,7 @@ type line struct {
 	trees  []api.Tree
 	deep   int
 	bodies []set
-	acts   [kinds]act
+	acts   [share.ReOps]act
 }
 
 // act is what the expressions of a kind do: they have pieces by those that their Subs have.
@@ -118,7 +116,7 @@ func (j judge) line(f []api.Tree, deep int) *line {
 	if j.mixes {
 		l.pieces = choices{len(f)}
 	}
-	l.acts = [kinds]act{
+	l.acts = [share.ReOps]act{
 		api.RNone: {func(api.Re, []set) set { return newSet(l.bound()) }},
 		api.REps:  {func(api.Re, []set) set { return l.empty() }},
 		api.RTree: {l.tree},

@@ -6,6 +6,7 @@ import (
 
 	"withy/api"
 	"withy/guard"
+	"withy/share"
 )
 
 // Parse returns the grammar of a text.
@@ -111,7 +112,7 @@ func (m mark) expression(r *reader) api.Re {
 	}
 	op := kindOf(m, 0, 1)
 	re := api.Re{Op: op}
-	for range shapes[op].subs {
+	for range share.UseOf(op).Subs {
 		sub := r.expression()
 		re.Subs = append(re.Subs, sub)
 	}
@@ -129,9 +130,10 @@ func (r *reader) pair() api.Re {
 
 // kindOf returns the kind of expressions that has a mark, and as many Subs as one of these numbers says.
 func kindOf(m mark, subs ...int) api.ReOp {
-	for op, s := range shapes {
-		if s.mark == m && slices.Contains(subs, s.subs) {
-			return api.ReOp(op)
+	for i, of := range marks {
+		op := api.ReOp(i)
+		if of == m && slices.Contains(subs, share.UseOf(op).Subs) {
+			return op
 		}
 	}
 	panic(unexpected{})

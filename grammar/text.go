@@ -23,7 +23,7 @@ func Print(g api.Grammar) (string, api.Errno) {
 
 // text returns the text of an expression.
 func (c checked) text(r api.Re) string {
-	m := string(shapes[r.Op].mark)
+	m := string(marks[r.Op])
 	switch {
 	case r.Op == api.RTree:
 		g, _ := guard.Print(r.Guard) // the guard has no error

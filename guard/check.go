@@ -10,17 +10,8 @@ import (
 	"withy/tree"
 )
 
-// tooLarge is whether a guard has too many guards. It goes no further than the first one that is too many, because a slice can hold itself as Subs.
-func tooLarge(g api.Guard) bool {
-	count := 0
-	for range share.Parts(g) {
-		count++
-		if count > api.MaxGuards {
-			return true
-		}
-	}
-	return false
-}
+// tooLarge is whether a guard has too many guards.
+func tooLarge(g api.Guard) bool { return !share.Fits(share.Parts(g), api.MaxGuards) }
 
 // kinds is how many kinds of guards there are.
 const kinds = int(api.GOr) + 1

@@ -57,6 +57,18 @@ func Nested[T any](x T, subs func(x T) []T) iter.Seq[T] {
 	}
 }
 
+// Fits is whether a list has at most so many elements. It goes no further than the first one that is too many, because a slice can hold itself as Subs.
+func Fits[T any](l iter.Seq[T], most int) bool {
+	count := 0
+	for range l {
+		count++
+		if count > most {
+			return false
+		}
+	}
+	return true
+}
+
 // Parts yields a guard, and then those of its Subs, in order, with theirs.
 func Parts(g api.Guard) iter.Seq[api.Guard] {
 	return Nested(g, func(g api.Guard) []api.Guard { return g.Subs })
